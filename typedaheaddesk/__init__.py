@@ -1,0 +1,1 @@
+"""Words completed as one types them: see typedaheaddesk.desk.answers."""
