@@ -27,6 +27,30 @@ def looks(k, *letters):
     return [5, k, len(letters), *letters]
 
 
+def begin(*letters):
+    return [6, len(letters), *letters]
+
+
+def more(n):
+    return [7, n]
+
+
+def sure(*letters):
+    return [8, len(letters), *letters]
+
+
+def near(e, k, *letters):
+    return [9, e, k, len(letters), *letters]
+
+
+def faults(n, *letters):
+    return [10, n, len(letters), *letters]
+
+
+def keys(k, *letters):
+    return [11, k, len(letters), *letters]
+
+
 def line(*calls):
     return [number for call in calls for number in call]
 

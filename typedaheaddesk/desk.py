@@ -1,8 +1,9 @@
 """The desk: its words, the calls about them, and how a list of calls is read and answered."""
 
-from typedaheaddesk.search import LAST_LETTER, Search
+from typedaheaddesk.search import LAST_LETTER, Search, fewest_faults, shared_letters, words_that_begin
 
 NOT_AS_TOLD = -1
+NO_SEARCH = -2
 NOT_THERE = -3
 TOO_MUCH = -5
 
@@ -12,6 +13,7 @@ MOST_LETTERS_TYPED = 12
 MOST_OWN_WEIGHT = 100000
 MOST_USES_WEIGHT = 100000
 ONE_USE_WEIGHT = 16
+MOST_FAULTS_ASKED = 3
 
 WORD = 0
 OUT = 1
@@ -19,9 +21,18 @@ USE = 2
 DAY = 3
 BEST = 4
 LOOKS = 5
+BEGIN = 6
+MORE = 7
+SURE = 8
+NEAR = 9
+FAULTS = 10
+KEYS = 11
 
 # By a call's number: how many whole numbers it has, and how many rows behind them.
-SHAPES = ((1, 1), (0, 1), (0, 1), (0, 0), (1, 1), (1, 1))
+SHAPES = (
+    (1, 1), (0, 1), (0, 1), (0, 0), (1, 1), (1, 1),
+    (0, 1), (1, 0), (0, 1), (2, 1), (1, 1), (1, 1),
+)
 
 
 def are_letters(row):
@@ -36,13 +47,29 @@ def can_be_typed(row):
     return len(row) <= MOST_LETTERS_TYPED and are_letters(row)
 
 
+def told_with_weight(word, weight):
+    return [len(word)] + list(word) + [weight]
+
+
 def told_with_weights(pairs):
     numbers = []
     for word, weight in pairs:
-        numbers.append(len(word))
-        numbers.extend(word)
-        numbers.append(weight)
+        numbers.extend(told_with_weight(word, weight))
     return numbers
+
+
+def place_when_near(found):
+    return (found[2], -found[1], found[0])
+
+
+# Each word as (the word, its weight, its faults), in the order in which near tells them.
+def near_words(weights, typed, most_faults):
+    found = []
+    for word, weight in weights.items():
+        faults = fewest_faults(typed, word)
+        if faults <= most_faults:
+            found.append((word, weight, faults))
+    return sorted(found, key=place_when_near)
 
 
 # Each call's method gives back the list of numbers that the call answers.
@@ -52,6 +79,7 @@ class Desk:
         # Two dicts with the same keys, the words as tuples of letters.
         self.own_weights = {}
         self.uses_weights = {}
+        self.open_search = None
 
     def weights_now(self):
         weights = {}
@@ -103,6 +131,58 @@ class Desk:
         search.tell(k)
         return [search.opened, len(search.heaviest)]
 
+    def begin(self, letters):
+        if not can_be_typed(letters):
+            return [NOT_AS_TOLD]
+        self.open_search = Search(self.weights_now(), letters)
+        return [len(self.open_search.weight_of)]
+
+    def more(self, n):
+        if self.open_search is None:
+            return [NO_SEARCH]
+        told = self.open_search.tell(n)
+        return [len(told)] + told_with_weights(told) + [self.open_search.opened]
+
+    def sure(self, letters):
+        if not can_be_typed(letters):
+            return [NOT_AS_TOLD]
+        begun = list(words_that_begin(self.own_weights, letters))
+        if len(begun) == 0:
+            return [NOT_THERE]
+        further = shared_letters(begun)[len(letters):]
+        return [len(further)] + further
+
+    def near(self, e, k, letters):
+        if e > MOST_FAULTS_ASKED or not can_be_typed(letters):
+            return [NOT_AS_TOLD]
+        found = near_words(self.weights_now(), letters, e)
+        numbers = [len(found), min(k, len(found))]
+        for word, weight, faults in found[:k]:
+            numbers.extend(told_with_weight(word, weight))
+            numbers.append(faults)
+        return numbers
+
+    # The word need not be the desk's, nor any word: what can be typed is asked of both parts alike.
+    def faults(self, n, letters):
+        typed = letters[:n]
+        word = letters[n:]
+        if len(letters) < n or not can_be_typed(typed) or not can_be_typed(word):
+            return [NOT_AS_TOLD]
+        return [fewest_faults(typed, word)]
+
+    # Not called keys: that name is kept for what is walked on the spot.
+    def keys_to(self, k, letters):
+        if letters not in self.own_weights:
+            return [NOT_THERE]
+        weights = self.weights_now()
+        # All letters and one key always do, even if the word isn't among the best k.
+        ways = [(len(letters) + 1, len(letters))]
+        for size in range(len(letters) + 1):
+            told = [row for row, weight in Search(weights, letters[:size]).tell(k)]
+            if letters in told:
+                ways.append((size + told.index(letters) + 1, size))
+        return list(min(ways))
+
 
 def answer(desk, call, numbers, letters):
     if call == WORD:
@@ -115,7 +195,19 @@ def answer(desk, call, numbers, letters):
         return desk.day()
     if call == BEST:
         return desk.best(numbers[0], letters)
-    return desk.looks(numbers[0], letters)
+    if call == LOOKS:
+        return desk.looks(numbers[0], letters)
+    if call == BEGIN:
+        return desk.begin(letters)
+    if call == MORE:
+        return desk.more(numbers[0])
+    if call == SURE:
+        return desk.sure(letters)
+    if call == NEAR:
+        return desk.near(numbers[0], numbers[1], letters)
+    if call == FAULTS:
+        return desk.faults(numbers[0], letters)
+    return desk.keys_to(numbers[0], letters)
 
 
 # Each call as (its number, its whole numbers, its letters); one without a row has no letters.

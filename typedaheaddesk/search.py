@@ -1,5 +1,6 @@
-"""The search: beginnings are opened, the best first, only until enough words are told.
+"""How words are found: by the search, by the letters that they share, by the fewest faults.
 
+The search opens beginnings, the best first, only until enough words are told.
 Rows of letters are tuples here: Python's order of tuples is the document's "earlier".
 """
 
@@ -12,6 +13,29 @@ def words_that_begin(weights, typed):
         if word[:len(typed)] == typed:
             chosen[word] = weight
     return chosen
+
+
+# Between the earliest and the latest lie only words that share what these two share.
+def shared_letters(words):
+    shared = []
+    for letter, other in zip(min(words), max(words)):
+        if letter != other:
+            break
+        shared.append(letter)
+    return shared
+
+
+# Letter by letter of what's typed: from the letters so far, the faults to each beginning of the word,
+# the empty one first. A letter is left out, another stands in its place, or one is put in.
+def fewest_faults(typed, word):
+    faults = list(range(len(word) + 1))
+    for letter in typed:
+        before = faults
+        faults = [before[0] + 1]
+        for place, wanted in enumerate(word):
+            changed = before[place] if letter == wanted else before[place] + 1
+            faults.append(min(before[place + 1] + 1, changed, faults[place] + 1))
+    return min(faults)
 
 
 def heaviest_words(weights, typed):
